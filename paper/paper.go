@@ -1,4 +1,4 @@
-// Package paper: a sheet's triangles at work: which of them are there, and which of them meet at an edge.
+// Package paper: a sheet's triangles at work: which of them are there, which of them meet at an edge, and what is creased.
 package paper
 
 import (
@@ -6,15 +6,16 @@ import (
 	"pleat/grid"
 )
 
-// Paper is made of W, H and Mask of a sheet alone: what creases are told of it may still be wrong.
+// Paper of a sheet.
 type Paper struct {
-	Tris []api.Tri          // by Y, then X, then K
-	at   map[api.Edge][]int // of each edge which of Tris have it
+	Tris  []api.Tri          // by Y, then X, then K
+	at    map[api.Edge][]int // of each edge which of Tris have it
+	kinds map[api.Edge]int   // of each edge that has a crease
 }
 
-// Of cells w wide and h high; mask has a number for each of them.
+// Of cells w wide and h high, without creases; mask has a number for each of them. The triangles need not be joined.
 func Of(w, h int, mask []int) Paper {
-	p := Paper{at: map[api.Edge][]int{}}
+	p := Paper{at: map[api.Edge][]int{}, kinds: map[api.Edge]int{}}
 	for y := range h {
 		for x := range w {
 			for k := range 4 {
@@ -43,23 +44,8 @@ func edges(t api.Tri) [3]api.Edge {
 // Inner: is it an edge on two triangles that are there?
 func (p Paper) Inner(e api.Edge) bool { return len(p.at[e]) == 2 }
 
-// Joined: is some triangle there, and does one come from it to all others across edges?
-func (p Paper) Joined() bool {
-	if len(p.Tris) == 0 {
-		return false
-	}
-	reached := make([]bool, len(p.Tris))
-	reached[0] = true
-	ways := []int{0} // all that were reached, in the order in which they were
-	for i := 0; i < len(ways); i++ {
-		for _, e := range edges(p.Tris[ways[i]]) {
-			for _, next := range p.at[e] {
-				if !reached[next] {
-					reached[next] = true
-					ways = append(ways, next)
-				}
-			}
-		}
-	}
-	return len(ways) == len(p.Tris)
-}
+// Edges: how many its triangles have, each counted once.
+func (p Paper) Edges() int { return len(p.at) }
+
+// Kind of the crease at an edge; 0: there is none.
+func (p Paper) Kind(e api.Edge) int { return p.kinds[e] }

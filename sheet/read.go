@@ -54,7 +54,7 @@ func (r *reader) readSize() {
 	words := r.words()
 	r.refuse(len(words) != 3 || words[0] != "sheet", api.ErrForm)
 	r.w, r.h = r.number(words[1]), r.number(words[2])
-	r.refuse(!maySide(r.w) || !maySide(r.h), api.ErrRange)
+	r.refuse(!paper.MaySide(r.w) || !paper.MaySide(r.h), api.ErrRange)
 }
 
 func (r *reader) number(word string) int {

@@ -7,12 +7,13 @@ import (
 	"testing"
 
 	"pleat/api"
+	"pleat/samples"
 	"pleat/sheet"
 )
 
 func TestP2_4_Read(t *testing.T) {
-	valley := with(full(2, 1), crease(api.Valley, 2, 0, 2, 2))
-	cross := with(full(1, 1), crease(1, 0, 0, 1, 1), crease(2, 0, 2, 1, 1), crease(2, 1, 1, 2, 0), crease(1, 1, 1, 2, 2))
+	valley := samples.With(samples.Full(2, 1), samples.Crease(api.Valley, 2, 0, 2, 2))
+	cross := samples.With(samples.Full(1, 1), samples.Crease(1, 0, 0, 1, 1), samples.Crease(2, 0, 2, 1, 1), samples.Crease(2, 1, 1, 2, 0), samples.Crease(1, 1, 1, 2, 2))
 	for name, c := range map[string]struct {
 		text string
 		want api.Sheet
@@ -30,9 +31,9 @@ func TestP2_4_Read(t *testing.T) {
 		"greater point first":      {text("sheet 2 1", "ff", "v 2 2 2 0"), valley},
 		"both diagonals":           {text("sheet 1 1", "f", "∧ 0 0 1 1", "m 2 2 1 1", "v 0 2 2 0"), cross},
 		"out of order":             {text("sheet 1 1", "f", "v 2 0 1 1", "m 1 1 2 2", "m 1 1 0 0", "∨ 1 1 0 2"), cross},
-		"the highest row first":    {text("sheet 2 3", "ed", "bf", "fd"), masked(2, 3, 15, 13, 11, 15, 14, 13)},
-		"cells that are not there": {text("sheet 3 1", "0f0"), masked(3, 1, 0, 15, 0)},
-		"greatest":                 {"sheet 8 8" + strings.Repeat("\nffffffff", 8), full(8, 8)},
+		"the highest row first":    {text("sheet 2 3", "ed", "bf", "fd"), samples.Masked(2, 3, 15, 13, 11, 15, 14, 13)},
+		"cells that are not there": {text("sheet 3 1", "0f0"), samples.Masked(3, 1, 0, 15, 0)},
+		"greatest":                 {"sheet 8 8" + strings.Repeat("\nffffffff", 8), samples.Full(8, 8)},
 	} {
 		if got, f := sheet.Read(c.text); f != (api.Fault{}) || !same(got, c.want) {
 			t.Errorf("%s: %v, %v", name, got, f)
@@ -42,15 +43,15 @@ func TestP2_4_Read(t *testing.T) {
 
 func TestP2_4_LongCreases(t *testing.T) {
 	for line, want := range map[string][]api.Edge{
-		"m 4 0 4 4": {edge(4, 0, 4, 2), edge(4, 2, 4, 4)},
-		"m 4 4 4 0": {edge(4, 0, 4, 2), edge(4, 2, 4, 4)},
-		"m 0 2 6 2": {edge(0, 2, 2, 2), edge(2, 2, 4, 2), edge(4, 2, 6, 2)},
-		"m 4 2 2 2": {edge(2, 2, 4, 2)},
-		"m 0 0 4 4": {edge(0, 0, 1, 1), edge(1, 1, 2, 2), edge(2, 2, 3, 3), edge(3, 3, 4, 4)},
+		"m 4 0 4 4": {samples.Edge(4, 0, 4, 2), samples.Edge(4, 2, 4, 4)},
+		"m 4 4 4 0": {samples.Edge(4, 0, 4, 2), samples.Edge(4, 2, 4, 4)},
+		"m 0 2 6 2": {samples.Edge(0, 2, 2, 2), samples.Edge(2, 2, 4, 2), samples.Edge(4, 2, 6, 2)},
+		"m 4 2 2 2": {samples.Edge(2, 2, 4, 2)},
+		"m 0 0 4 4": {samples.Edge(0, 0, 1, 1), samples.Edge(1, 1, 2, 2), samples.Edge(2, 2, 3, 3), samples.Edge(3, 3, 4, 4)},
 		"m 5 3 1 3": nil,
-		"m 5 1 2 4": {edge(2, 4, 3, 3), edge(3, 3, 4, 2), edge(4, 2, 5, 1)},
-		"m 2 4 5 1": {edge(2, 4, 3, 3), edge(3, 3, 4, 2), edge(4, 2, 5, 1)},
-		"m 3 3 2 2": {edge(2, 2, 3, 3)},
+		"m 5 1 2 4": {samples.Edge(2, 4, 3, 3), samples.Edge(3, 3, 4, 2), samples.Edge(4, 2, 5, 1)},
+		"m 2 4 5 1": {samples.Edge(2, 4, 3, 3), samples.Edge(3, 3, 4, 2), samples.Edge(4, 2, 5, 1)},
+		"m 3 3 2 2": {samples.Edge(2, 2, 3, 3)},
 	} {
 		s, f := sheet.Read(text("sheet 3 2", "fff", "fff", line))
 		if want == nil {
@@ -199,7 +200,7 @@ func TestP2_4_LinesMissing(t *testing.T) {
 func TestP2_4_Size(t *testing.T) {
 	right, wrong := "sheet 1 1\nf\n#", "x\n#"
 	fill := func(in string, size int) string { return in + strings.Repeat(".", size-len(in)) }
-	if s, f := sheet.Read(fill(right, api.MaxText)); f != (api.Fault{}) || !same(s, full(1, 1)) {
+	if s, f := sheet.Read(fill(right, api.MaxText)); f != (api.Fault{}) || !same(s, samples.Full(1, 1)) {
 		t.Error("the greatest text:", s, f)
 	}
 	for _, in := range []string{fill(right, api.MaxText+1), fill(wrong, api.MaxText+1), strings.Repeat("\n", api.MaxText+1), strings.Repeat("x", 1<<20)} {
@@ -214,15 +215,15 @@ func TestP2_4_Size(t *testing.T) {
 
 // Every pair of points of a sheet, held against what the chapter's words say of them.
 func TestP2_4_EveryPairOfPoints(t *testing.T) {
-	s := masked(2, 2, 15, 13, 15, 7)
+	s := samples.Masked(2, 2, 15, 13, 15, 7)
 	shown, _ := sheet.Show(s)
 	known := map[api.Edge]int{}
-	for _, e := range inner(s) {
+	for _, e := range samples.Inner(s) {
 		known[e] = 1
 	}
 	digits := "0123456"
 	for n := range 7 * 7 * 7 * 7 {
-		e := edge(n%7, n/7%7, n/49%7, n/343)
+		e := samples.Edge(n%7, n/7%7, n/49%7, n/343)
 		words := []string{"m", digits[n%7:][:1], digits[n/7%7:][:1], digits[n/49%7:][:1], digits[n/343:][:1]}
 		_, f := sheet.Read(shown + strings.Join(words, " "))
 		if want := codeOf(e, known); f.Code != want {
@@ -254,7 +255,7 @@ func codeOf(e api.Edge, known map[api.Edge]int) api.Errno {
 	}
 	dx, dy := (q.X-p.X)/pieces, (q.Y-p.Y)/pieces
 	for i := range pieces {
-		if known[edge(p.X+i*dx, p.Y+i*dy, p.X+(i+1)*dx, p.Y+(i+1)*dy)] == 0 {
+		if known[samples.Edge(p.X+i*dx, p.Y+i*dy, p.X+(i+1)*dx, p.Y+(i+1)*dy)] == 0 {
 			return api.ErrPlace
 		}
 	}
@@ -269,7 +270,7 @@ func TestP2_4_MangledTexts(t *testing.T) {
 		drawn = drawn*6364136223846793005 + 1442695040888963407
 		return int((drawn >> 33) % uint64(most))
 	}
-	sheets := goodSheets()
+	sheets := samples.Good()
 	for _, name := range slices.Sorted(maps.Keys(sheets)) {
 		shown, e := sheet.Show(sheets[name])
 		if e != api.OK {
@@ -295,7 +296,7 @@ func TestP2_4_NewMemory(t *testing.T) {
 	first, _ := sheet.Read(in)
 	first.Mask[0], first.Creases[0] = 3, api.Crease{}
 	second, f := sheet.Read(in)
-	if f != (api.Fault{}) || !same(second, with(full(2, 1), crease(api.Valley, 2, 0, 2, 2))) {
+	if f != (api.Fault{}) || !same(second, samples.With(samples.Full(2, 1), samples.Crease(api.Valley, 2, 0, 2, 2))) {
 		t.Error("an answer shares memory with an earlier one:", second, f)
 	}
 }

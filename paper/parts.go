@@ -1,0 +1,45 @@
+package paper
+
+import (
+	"slices"
+
+	"pleat/api"
+)
+
+// Parts: of each triangle the number of its part, from 0 on in the order of their first triangles: a part's come to one another across edges that may be crossed.
+func (p Paper) Parts(crossed func(e api.Edge) bool) []int {
+	part := slices.Repeat([]int{-1}, len(p.Tris))
+	count := 0
+	for i := range p.Tris {
+		if part[i] < 0 {
+			p.spread(part, i, count, crossed)
+			count++
+		}
+	}
+	return part
+}
+
+// spread the number of a part from one triangle on to all that belong to it.
+func (p Paper) spread(part []int, first, number int, crossed func(e api.Edge) bool) {
+	part[first] = number
+	reached := []int{first}
+	for n := 0; n < len(reached); n++ {
+		for _, e := range edges(p.Tris[reached[n]]) {
+			if !crossed(e) {
+				continue
+			}
+			for _, next := range p.at[e] {
+				if part[next] < 0 {
+					part[next] = number
+					reached = append(reached, next)
+				}
+			}
+		}
+	}
+}
+
+// Joined: is some triangle there, and does one come from it to all others across edges?
+func (p Paper) Joined() bool {
+	parts := p.Parts(func(api.Edge) bool { return true })
+	return len(parts) > 0 && slices.Max(parts) == 0
+}
