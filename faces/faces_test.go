@@ -72,7 +72,7 @@ func TestP3_1_Ring(t *testing.T) {
 }
 
 func TestP3_1_FacesOfMany(t *testing.T) {
-	for _, s := range sheets() {
+	for _, s := range samples.Many() {
 		if got, e := faces.Faces(s); e != api.OK || !sameFaces(got, wantFaces(s)) {
 			t.Errorf("%v: %v, %d, wanted %v", s, got, e, wantFaces(s))
 		}
@@ -144,7 +144,7 @@ func TestP3_2_Order(t *testing.T) {
 }
 
 func TestP3_2_StarsOfMany(t *testing.T) {
-	for _, s := range sheets() {
+	for _, s := range samples.Many() {
 		if got, e := faces.Stars(s); e != api.OK || !sameStars(got, wantStars(s)) {
 			t.Errorf("%v: %v, %d, wanted %v", s, got, e, wantStars(s))
 		}
@@ -177,7 +177,7 @@ func TestP3_3_Holes(t *testing.T) {
 }
 
 func TestP3_3_HolesOfMany(t *testing.T) {
-	for _, s := range sheets() {
+	for _, s := range samples.Many() {
 		if got, e := faces.Holes(s); e != api.OK || got != wantHoles(s) {
 			t.Errorf("%v: %d, %d, wanted %d", s, got, e, wantHoles(s))
 		}

@@ -8,56 +8,9 @@ import (
 	"pleat/samples"
 )
 
-// sheets that may be: the samples, and a run of sheets with cells that lack triangles, some edges of them creased.
-func sheets() []api.Sheet {
-	var out []api.Sheet
-	for _, s := range samples.Good() {
-		out = append(out, s)
-	}
-	for n := range 400 {
-		s := samples.Full(1+n%4, 1+n/4%3)
-		s.Mask[n%len(s.Mask)] &= n * 7
-		s.Mask[n*n%len(s.Mask)] &= n
-		out = append(out, samples.Creased(s, func(i int) bool { return (i*i+n*i+n)%(2+n%3) == 0 }))
-	}
-	return slices.DeleteFunc(out, func(s api.Sheet) bool { return parts(s) != 1 })
-}
-
-// parts of a sheet, whatever its creases.
-func parts(s api.Sheet) int {
-	return distinct(samples.Labels(samples.Tris(s), func(t api.Tri) []api.Tri { return samples.Neighbours(s, t) }))
-}
-
-// distinct numbers among the labels.
-func distinct(label map[api.Tri]int) int {
-	seen := map[int]int{}
-	for _, l := range label {
-		seen[l]++
-	}
-	return len(seen)
-}
-
-// ordered: a sheet's triangles by Y, then X, then K.
-func ordered(s api.Sheet) []api.Tri {
-	tris := samples.Tris(s)
-	slices.SortFunc(tris, func(a, b api.Tri) int {
-		return (a.Y*100+a.X)*10 + a.K - (b.Y*100+b.X)*10 - b.K
-	})
-	return tris
-}
-
-// kinds of a sheet's creases, by their edges.
-func kinds(s api.Sheet) map[api.Edge]int {
-	out := map[api.Edge]int{}
-	for _, c := range s.Creases {
-		out[c.E] = c.Kind
-	}
-	return out
-}
-
 // wantFaces: triangles in order, each put behind what has its label.
 func wantFaces(s api.Sheet) [][]api.Tri {
-	tris, creased := ordered(s), kinds(s)
+	tris, creased := samples.Ordered(s), samples.Kinds(s)
 	label := samples.Labels(tris, func(t api.Tri) []api.Tri {
 		edges, _ := grid.Edges(t)
 		var next []api.Tri
@@ -85,7 +38,7 @@ func wantFaces(s api.Sheet) [][]api.Tri {
 
 // wantStars: all points of a sheet in order; what must be there around each is written out.
 func wantStars(s api.Sheet) []api.Star {
-	creased := kinds(s)
+	creased := samples.Kinds(s)
 	var out []api.Star
 	for x := range 2*s.W + 1 {
 		for y := range 2*s.H + 1 {
@@ -135,7 +88,7 @@ func wantHoles(s api.Sheet) int {
 			tris = append(tris, t)
 		}
 	}
-	return distinct(samples.Labels(tris, func(t api.Tri) []api.Tri {
+	return samples.Distinct(samples.Labels(tris, func(t api.Tri) []api.Tri {
 		edges, _ := grid.Edges(t)
 		var next []api.Tri
 		for _, e := range edges {

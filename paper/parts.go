@@ -24,15 +24,10 @@ func (p Paper) spread(part []int, first, number int, crossed func(e api.Edge) bo
 	part[first] = number
 	reached := []int{first}
 	for n := 0; n < len(reached); n++ {
-		for _, e := range edges(p.Tris[reached[n]]) {
-			if !crossed(e) {
-				continue
-			}
-			for _, next := range p.at[e] {
-				if part[next] < 0 {
-					part[next] = number
-					reached = append(reached, next)
-				}
+		for _, j := range p.Joints(reached[n]) {
+			if part[j.To] < 0 && crossed(j.E) {
+				part[j.To] = number
+				reached = append(reached, j.To)
 			}
 		}
 	}

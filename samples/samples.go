@@ -55,6 +55,24 @@ func Tris(s api.Sheet) []api.Tri {
 	return out
 }
 
+// Ordered: a sheet's triangles by Y, then X, then K.
+func Ordered(s api.Sheet) []api.Tri {
+	tris := Tris(s)
+	slices.SortFunc(tris, func(a, b api.Tri) int {
+		return (a.Y*100+a.X)*10 + a.K - (b.Y*100+b.X)*10 - b.K
+	})
+	return tris
+}
+
+// Kinds of a sheet's creases, by their edges.
+func Kinds(s api.Sheet) map[api.Edge]int {
+	out := map[api.Edge]int{}
+	for _, c := range s.Creases {
+		out[c.E] = c.Kind
+	}
+	return out
+}
+
 // Neighbours of a triangle that are there.
 func Neighbours(s api.Sheet, t api.Tri) []api.Tri {
 	var out []api.Tri
@@ -84,6 +102,15 @@ func Labels(tris []api.Tri, next func(t api.Tri) []api.Tri) map[api.Tri]int {
 		}
 	}
 	return label
+}
+
+// Distinct numbers among labels: how many.
+func Distinct(label map[api.Tri]int) int {
+	seen := map[int]int{}
+	for _, l := range label {
+		seen[l]++
+	}
+	return len(seen)
 }
 
 // Inner: all edges on two triangles that are there, rising.

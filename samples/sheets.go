@@ -1,6 +1,10 @@
 package samples
 
-import "pleat/api"
+import (
+	"slices"
+
+	"pleat/api"
+)
 
 // Good: sheets that may be, at the edges of what may be too.
 func Good() map[string]api.Sheet {
@@ -22,6 +26,26 @@ func Good() map[string]api.Sheet {
 		"no creases, but no nil":  With(Full(2, 2), []api.Crease{}...),
 		"rows that are not alike": Masked(2, 3, 15, 13, 11, 15, 14, 13),
 	}
+}
+
+// Many sheets that may be: the good ones, and a run of sheets with cells that lack triangles, some edges of them creased.
+func Many() []api.Sheet {
+	var out []api.Sheet
+	for _, s := range Good() {
+		out = append(out, s)
+	}
+	for n := range 400 {
+		s := Full(1+n%4, 1+n/4%3)
+		s.Mask[n%len(s.Mask)] &= n * 7
+		s.Mask[n*n%len(s.Mask)] &= n
+		out = append(out, Creased(s, func(i int) bool { return (i*i+n*i+n)%(2+n%3) == 0 }))
+	}
+	return slices.DeleteFunc(out, func(s api.Sheet) bool { return pieces(s) != 1 })
+}
+
+// pieces of a sheet, whatever its creases.
+func pieces(s api.Sheet) int {
+	return Distinct(Labels(Tris(s), func(t api.Tri) []api.Tri { return Neighbours(s, t) }))
 }
 
 // Wrong: sheets that may not be, each for one reason.
