@@ -51,7 +51,7 @@ func TestP4_1_AtOnePoint(t *testing.T) {
 		for _, kind := range c.want {
 			want = append(want, api.Trouble{At: center, Kind: kind})
 		}
-		if got, e := flat.Troubles(rays(c.kinds)); e != api.OK || !slices.Equal(got, want) {
+		if got, e := flat.Troubles(samples.Rays(c.kinds)); e != api.OK || !slices.Equal(got, want) {
 			t.Errorf("%s: %v, %d", name, got, e)
 		}
 	}
@@ -63,7 +63,7 @@ func TestP4_1_AtMiddles(t *testing.T) {
 		for i, e := range []api.Edge{samples.Edge(1, 1, 2, 2), samples.Edge(0, 2, 1, 1), samples.Edge(0, 0, 1, 1), samples.Edge(1, 1, 2, 0)} {
 			of[e] = kinds[i]
 		}
-		return kinded(samples.Full(1, 1), of)
+		return samples.Kinded(samples.Full(1, 1), of)
 	}
 	at := api.Point{X: 1, Y: 1}
 	uneven, kinds := api.Trouble{At: at, Kind: api.Uneven}, api.Trouble{At: at, Kind: api.Kinds}
@@ -116,8 +116,8 @@ func TestP4_1_Order(t *testing.T) {
 }
 
 func TestP4_1_EveryStar(t *testing.T) {
-	allRays(func(kinds [8]int) {
-		s := rays(kinds)
+	samples.AllRays(func(kinds [8]int) {
+		s := samples.Rays(kinds)
 		if got, e := flat.Troubles(s); e != api.OK || !slices.Equal(got, wantTroubles(s)) {
 			t.Errorf("%v: %v, %d", kinds, got, e)
 		}
@@ -125,7 +125,7 @@ func TestP4_1_EveryStar(t *testing.T) {
 }
 
 func TestP4_1_TroublesOfMany(t *testing.T) {
-	for _, s := range plenty() {
+	for _, s := range samples.Plenty() {
 		if got, e := flat.Troubles(s); e != api.OK || !slices.Equal(got, wantTroubles(s)) {
 			t.Errorf("%v: %v, %d, wanted %v", s, got, e, wantTroubles(s))
 		}
@@ -145,7 +145,7 @@ func TestP4_2_Mirrors(t *testing.T) {
 		{Way: api.Rising, C: -2}: {B: 1, C: 1, E: -2, F: 2},
 	} {
 		for kind := m; kind <= v; kind++ {
-			s := lined(samples.Full(3, 2), kind, l)
+			s := samples.Lined(samples.Full(3, 2), kind, l)
 			got, e := flat.Place(s)
 			if e != api.OK || len(got) != 24 {
 				t.Fatal(l, got, e)
@@ -164,7 +164,7 @@ func TestP4_2_Mirrors(t *testing.T) {
 
 // Two creases: what lies behind both is mirrored at the farther one first.
 func TestP4_2_TwoCreases(t *testing.T) {
-	got, e := flat.Place(lined(samples.Full(3, 1), v, api.Line{C: 2}, api.Line{C: 4}))
+	got, e := flat.Place(samples.Lined(samples.Full(3, 1), v, api.Line{C: 2}, api.Line{C: 4}))
 	want := []api.Map{stay, {A: -1, D: 1, E: 4}, {A: 1, D: 1, E: -4}}
 	if e != api.OK || len(got) != 12 {
 		t.Fatal(got, e)
@@ -174,7 +174,7 @@ func TestP4_2_TwoCreases(t *testing.T) {
 			t.Errorf("cell %d: %v", i/4, a)
 		}
 	}
-	got, e = flat.Place(lined(samples.Full(2, 2), m, api.Line{C: 2}, api.Line{Way: api.Level, C: 2}))
+	got, e = flat.Place(samples.Lined(samples.Full(2, 2), m, api.Line{C: 2}, api.Line{Way: api.Level, C: 2}))
 	want = []api.Map{stay, {A: -1, D: 1, E: 4}, {A: 1, D: -1, F: 4}, {A: -1, D: -1, E: 4, F: 4}}
 	if e != api.OK || len(got) != 16 {
 		t.Fatal(got, e)
@@ -192,13 +192,13 @@ func TestP4_2_FirstStays(t *testing.T) {
 		"one triangle": samples.Masked(1, 1, 4),
 		"far":          samples.Masked(8, 8, append(make([]int, 63), 8)...),
 		"no south":     samples.With(samples.Masked(1, 1, 14), samples.Crease(v, 1, 1, 2, 2)),
-		"not at 0":     lined(samples.Masked(3, 2, 0, 15, 15, 15, 15, 15), v, api.Line{C: 2}),
+		"not at 0":     samples.Lined(samples.Masked(3, 2, 0, 15, 15, 15, 15, 15), v, api.Line{C: 2}),
 	} {
 		if got, e := flat.Place(s); e != api.OK || len(got) != len(samples.Tris(s)) || got[0] != stay {
 			t.Errorf("%s: %v, %d", name, got, e)
 		}
 	}
-	got, e := flat.Place(lined(samples.Masked(3, 2, 0, 15, 15, 15, 15, 15), v, api.Line{C: 2}))
+	got, e := flat.Place(samples.Lined(samples.Masked(3, 2, 0, 15, 15, 15, 15, 15), v, api.Line{C: 2}))
 	if e != api.OK || got[8] != (api.Map{A: -1, D: 1, E: 4}) || got[12] != stay {
 		t.Error(got, e)
 	}
@@ -228,15 +228,15 @@ func TestP4_2_Tear(t *testing.T) {
 		"a crease that ends within":      {samples.With(samples.Full(1, 1), samples.Crease(v, 0, 0, 1, 1)), api.ErrTear},
 		"bent":                           {samples.With(samples.Full(1, 1), samples.Crease(v, 0, 0, 1, 1), samples.Crease(v, 0, 2, 1, 1)), api.ErrTear},
 		"an edge within":                 {samples.With(samples.Full(3, 3), samples.Crease(v, 2, 2, 4, 2)), api.ErrTear},
-		"lines not at right angles":      {lined(samples.Full(2, 2), v, api.Line{C: 2}, api.Line{Way: api.Rising}), api.ErrTear},
-		"kinds alone are wrong":          {rays([8]int{v, 0, 0, 0, m}), api.OK},
+		"lines not at right angles":      {samples.Lined(samples.Full(2, 2), v, api.Line{C: 2}, api.Line{Way: api.Rising}), api.ErrTear},
+		"kinds alone are wrong":          {samples.Rays([8]int{v, 0, 0, 0, m}), api.OK},
 		"ends at what lacks":             {samples.With(samples.Masked(1, 1, 14), samples.Crease(v, 1, 1, 2, 2)), api.OK},
 		"a ring, whole":                  {ring, api.OK},
 		"a ring, one crease":             {samples.With(ring, west), api.ErrTear},
 		"a ring, two on one line":        {samples.With(ring, west, east), api.OK},
 		"a ring, two that lie alike":     {samples.With(ring, west, samples.Crease(v, 4, 4, 6, 4)), api.ErrTear},
 		"a ring, two at right angles":    {samples.With(ring, west, samples.Crease(v, 4, 0, 4, 2)), api.ErrTear},
-		"a ring, a line and another one": {lined(ring, v, api.Line{C: 2}, api.Line{C: 4}, api.Line{Way: api.Level, C: 2}), api.OK},
+		"a ring, a line and another one": {samples.Lined(ring, v, api.Line{C: 2}, api.Line{C: 4}, api.Line{Way: api.Level, C: 2}), api.OK},
 	} {
 		got, e := flat.Place(c.s)
 		if e != c.want || e == api.ErrTear && len(got) != 0 || e == api.OK && len(got) != len(samples.Tris(c.s)) {
@@ -267,7 +267,7 @@ func wrongPlaces(s api.Sheet, got []api.Map, e api.Errno) bool {
 
 func TestP4_2_PlacesOfMany(t *testing.T) {
 	torn, whole := 0, 0
-	for _, s := range plenty() {
+	for _, s := range samples.Plenty() {
 		got, e := flat.Place(s)
 		if wrongPlaces(s, got, e) {
 			t.Errorf("%v: %v, %d", s, got, e)
@@ -284,8 +284,8 @@ func TestP4_2_PlacesOfMany(t *testing.T) {
 }
 
 func TestP4_2_EveryStar(t *testing.T) {
-	allRays(func(kinds [8]int) {
-		s := rays(kinds)
+	samples.AllRays(func(kinds [8]int) {
+		s := samples.Rays(kinds)
 		if got, e := flat.Place(s); wrongPlaces(s, got, e) {
 			t.Errorf("%v: %v, %d", kinds, got, e)
 		}
@@ -311,7 +311,7 @@ func TestP4_Folded(t *testing.T) {
 
 // Two triangles come to lie on both sides of where their edge comes to, folded on one side, and so at one place.
 func TestP4_2_Sides(t *testing.T) {
-	for _, s := range plenty() {
+	for _, s := range samples.Plenty() {
 		maps, e := flat.Place(s)
 		if e != api.OK {
 			continue
@@ -335,7 +335,7 @@ func TestP4_2_Sides(t *testing.T) {
 
 // If maps are so, no star is Uneven; if none is, and there are no holes, maps are so.
 func TestP4_UnevenTears(t *testing.T) {
-	for _, s := range plenty() {
+	for _, s := range samples.Plenty() {
 		_, code := flat.Place(s)
 		troubles, _ := flat.Troubles(s)
 		holes, _ := faces.Holes(s)
@@ -370,7 +370,7 @@ func TestP4_WhatIsHandedInStays(t *testing.T) {
 
 // An answer is written over, its spare room too: no later one is touched by it.
 func TestP4_NewMemory(t *testing.T) {
-	s := rays([8]int{m, 0, m, 0, m, 0, m})
+	s := samples.Rays([8]int{m, 0, m, 0, m, 0, m})
 	k, _ := flat.Troubles(s)
 	l, _ := flat.Place(s)
 	for i := range k[:cap(k)] {

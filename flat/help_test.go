@@ -119,116 +119,16 @@ func wantTroubles(s api.Sheet) []api.Trouble {
 	return out
 }
 
-// kinded: creases of these kinds, in order.
-func kinded(s api.Sheet, kinds map[api.Edge]int) api.Sheet {
-	s.Creases = nil
-	for _, e := range samples.Inner(s) {
-		if kinds[e] != 0 {
-			s.Creases = append(s.Creases, api.Crease{E: e, Kind: kinds[e]})
-		}
-	}
-	return s
-}
-
-// rays: a sheet of 2 and 2 cells with creases from its center to the rim: a kind for each direction, 0 for none.
-func rays(kinds [8]int) api.Sheet {
-	of := map[api.Edge]int{}
-	for d, edges := range [8][]api.Edge{
-		{samples.Edge(2, 2, 4, 2)},
-		{samples.Edge(2, 2, 3, 3), samples.Edge(3, 3, 4, 4)},
-		{samples.Edge(2, 2, 2, 4)},
-		{samples.Edge(1, 3, 2, 2), samples.Edge(0, 4, 1, 3)},
-		{samples.Edge(0, 2, 2, 2)},
-		{samples.Edge(1, 1, 2, 2), samples.Edge(0, 0, 1, 1)},
-		{samples.Edge(2, 0, 2, 2)},
-		{samples.Edge(2, 2, 3, 1), samples.Edge(3, 1, 4, 0)},
-	} {
-		for _, e := range edges {
-			of[e] = kinds[d]
-		}
-	}
-	return kinded(samples.Full(2, 2), of)
-}
-
-// allRays: all of them.
-func allRays(do func(kinds [8]int)) {
-	for n := range 3 * 3 * 3 * 3 * 3 * 3 * 3 * 3 {
-		var kinds [8]int
-		for d := range kinds {
-			kinds[d] = n % 3
-			n /= 3
-		}
-		do(kinds)
-	}
-}
-
 // folded: a sheet all layers of which are folded at lines, one behind the other, what lies above a line over what lies below; and the map to which each triangle came (in order), the first one's undone.
 func folded(s api.Sheet, lines ...api.Line) (api.Sheet, []api.Map) {
-	tris, kinds := samples.Ordered(s), map[api.Edge]int{}
-	maps := slices.Repeat([]api.Map{stay}, len(tris))
+	var folds []api.Fold
 	for _, l := range lines {
-		mirror, _ := grid.Mirror(l)
-		before := slices.Clone(maps)
-		for i, t := range tris {
-			at, _ := grid.Move(maps[i], t)
-			if side, _ := grid.Side(l, at); side == 1 {
-				maps[i], _ = grid.After(maps[i], mirror)
-			}
-		}
-		for _, e := range samples.Inner(s) {
-			t, u := beside(tris, e)
-			if kinds[e] == 0 && maps[t] != maps[u] {
-				kinds[e] = api.Mountain
-				if before[t].A*before[t].D-before[t].B*before[t].C == 1 { // front side above
-					kinds[e] = api.Valley
-				}
-			}
-		}
+		folds = append(folds, api.Fold{Line: l, Side: 1, Over: true})
 	}
-	back, _ := grid.Back(maps[0])
-	for i, m := range maps {
-		maps[i], _ = grid.After(m, back)
+	st := samples.Folded(s, folds...)
+	back, _ := grid.Back(st.Maps[0])
+	for i, m := range st.Maps {
+		st.Maps[i], _ = grid.After(m, back)
 	}
-	return kinded(s, kinds), maps
-}
-
-// beside: which two triangles have an inner edge.
-func beside(tris []api.Tri, e api.Edge) (int, int) {
-	has := func(t api.Tri) bool { return slices.Contains(list(t), e.P) && slices.Contains(list(t), e.Q) }
-	i := slices.IndexFunc(tris, has)
-	return i, i + 1 + slices.IndexFunc(tris[i+1:], has)
-}
-
-// lined: creases of one kind on all inner edges that lie on one of these lines.
-func lined(s api.Sheet, kind int, lines ...api.Line) api.Sheet {
-	kinds := map[api.Edge]int{}
-	for _, e := range samples.Inner(s) {
-		if slices.ContainsFunc(lines, func(l api.Line) bool { return on(l, e.P) && on(l, e.Q) }) {
-			kinds[e] = kind
-		}
-	}
-	return kinded(s, kinds)
-}
-
-func on(l api.Line, p api.Point) bool {
-	return []int{p.X, p.Y, p.X + p.Y, p.X - p.Y}[l.Way] == l.C
-}
-
-// linePairs of which some cross at right angles, some do not, and some lie side by side.
-func linePairs() [][]api.Line {
-	var out [][]api.Line
-	for n := range 4 * 4 * 3 * 3 {
-		out = append(out, []api.Line{{Way: n % 4, C: 2 * (n / 16 % 3)}, {Way: n / 4 % 4, C: 2 + 2*(n/48)}})
-	}
-	return out
-}
-
-// plenty of sheets: with creases here and there, most of which tear, and with creases along lines.
-func plenty() []api.Sheet {
-	out := samples.Many()
-	ring := samples.Masked(3, 3, 15, 15, 15, 15, 0, 15, 15, 15, 15)
-	for _, lines := range linePairs() {
-		out = append(out, lined(samples.Full(3, 2), api.Valley, lines...), lined(ring, api.Mountain, lines...), lined(samples.Masked(2, 2, 15, 15, 15, 14), api.Valley, lines...))
-	}
-	return out
+	return st.Sheet, st.Maps
 }

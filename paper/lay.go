@@ -1,6 +1,10 @@
 package paper
 
-import "pleat/api"
+import (
+	"slices"
+
+	"pleat/api"
+)
 
 // Lay a sheet out, if it may be.
 func Lay(s api.Sheet) (Paper, bool) {
@@ -42,4 +46,10 @@ func (p Paper) mayCreases(creases []api.Crease) bool {
 		}
 	}
 	return true
+}
+
+// Copy of a sheet that shares nothing with it.
+func Copy(s api.Sheet) api.Sheet {
+	s.Mask, s.Creases = slices.Clone(s.Mask), slices.Clone(s.Creases)
+	return s
 }

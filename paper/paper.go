@@ -2,6 +2,8 @@
 package paper
 
 import (
+	"slices"
+
 	"pleat/api"
 	"pleat/grid"
 )
@@ -39,6 +41,11 @@ func (p *Paper) add(t api.Tri) {
 func edges(t api.Tri) [3]api.Edge {
 	all, _ := grid.Edges(t)
 	return all
+}
+
+// Number of a triangle among Tris, if it is there.
+func (p Paper) Number(t api.Tri) (int, bool) {
+	return slices.BinarySearchFunc(p.Tris, t, CompareTris)
 }
 
 // Inner: is it an edge on two triangles that are there?

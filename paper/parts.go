@@ -33,6 +33,11 @@ func (p Paper) spread(part []int, first, number int, crossed func(e api.Edge) bo
 	}
 }
 
+// Faces: of each triangle the number of its face, what creases part.
+func (p Paper) Faces() []int {
+	return p.Parts(func(e api.Edge) bool { return p.Kind(e) == 0 })
+}
+
 // Joined: is some triangle there, and does one come from it to all others across edges?
 func (p Paper) Joined() bool {
 	parts := p.Parts(func(api.Edge) bool { return true })
