@@ -6,13 +6,21 @@ import (
 	"pleat/api"
 )
 
+// Rule: is something wrong, if all lies in this order?
+type Rule func(above Order) bool
+
 // Clashes at a meeting, if all lies in this order: their kinds, rising.
 func (m Meeting) Clashes(above Order) []int {
 	var kinds []int
 	for _, rule := range []struct {
 		kind  int
-		wrong func(Order) bool
-	}{{api.Twisted, m.twisted}, {api.Pierced, m.pierced}, {api.Tangled, m.tangled}, {api.Misfolded, m.misfolded}} {
+		wrong Rule
+	}{
+		{api.Twisted, m.Twisted},
+		{api.Pierced, m.either(Side.Pierced)},
+		{api.Tangled, m.either(Side.Tangled)},
+		{api.Misfolded, m.either(Side.Misfolded)},
+	} {
 		if rule.wrong(above) {
 			kinds = append(kinds, rule.kind)
 		}
@@ -20,14 +28,17 @@ func (m Meeting) Clashes(above Order) []int {
 	return kinds
 }
 
-func (m Meeting) twisted(above Order) bool {
-	return somePair(m.Passes, func(a, b Pass) bool { return above(a[0], b[0]) != above(a[1], b[1]) })
+// either: is something wrong on one of both sides?
+func (m Meeting) either(wrong func(s Side, above Order) bool) Rule {
+	return func(above Order) bool { return wrong(m[0], above) || wrong(m[1], above) }
 }
 
-func (m Meeting) pierced(above Order) bool {
-	for side, folds := range m.Folds {
-		for _, f := range folds {
-			if slices.ContainsFunc(m.Passes, func(p Pass) bool { return f.around(p[side], above) }) {
+// Twisted: do two that go on lie one way here, and the other way there?
+func (m Meeting) Twisted(above Order) bool {
+	here, there := m[0].On, m[1].On
+	for i := range here {
+		for j := range i {
+			if above(here[i], here[j]) != above(there[i], there[j]) {
 				return true
 			}
 		}
@@ -35,29 +46,29 @@ func (m Meeting) pierced(above Order) bool {
 	return false
 }
 
-func (m Meeting) tangled(above Order) bool {
-	crossed := func(a, b Fold) bool { return a.around(b.Low, above) != a.around(b.High, above) }
-	return somePair(m.Folds[0], crossed) || somePair(m.Folds[1], crossed)
+// Pierced: does one that goes on lie in a fold?
+func (s Side) Pierced(above Order) bool {
+	return slices.ContainsFunc(s.Folds, func(f Fold) bool {
+		return slices.ContainsFunc(s.On, func(i int) bool { return f.around(i, above) })
+	})
 }
 
-func (m Meeting) misfolded(above Order) bool {
-	wrong := func(f Fold) bool { return above(f.Low, f.High) }
-	return slices.ContainsFunc(m.Folds[0], wrong) || slices.ContainsFunc(m.Folds[1], wrong)
+// Tangled: does just one of a fold's two lie in another fold?
+func (s Side) Tangled(above Order) bool {
+	for n, a := range s.Folds {
+		if slices.ContainsFunc(s.Folds[:n], func(b Fold) bool { return a.around(b.Low, above) != a.around(b.High, above) }) {
+			return true
+		}
+	}
+	return false
+}
+
+// Misfolded: is a fold not as its kind has it?
+func (s Side) Misfolded(above Order) bool {
+	return slices.ContainsFunc(s.Folds, func(f Fold) bool { return above(f.Low, f.High) })
 }
 
 // around: does a triangle lie between both of the fold?
 func (f Fold) around(i int, above Order) bool {
 	return above(i, f.Low) != above(i, f.High)
-}
-
-// somePair: is it so for two of the list?
-func somePair[T any](list []T, so func(a, b T) bool) bool {
-	for i, a := range list {
-		for _, b := range list[i+1:] {
-			if so(a, b) {
-				return true
-			}
-		}
-	}
-	return false
 }

@@ -6,14 +6,14 @@ import (
 	"pleat/paper"
 )
 
-// Meeting at an edge of the plane: of all paper whose edges come to lie there what goes on there, or is folded. What ends there is in nothing's way.
-type Meeting struct {
-	Passes []Pass
-	Folds  [2][]Fold // on each side
-}
+// Meeting at an edge of the plane: what goes on there, or is folded, on each side of it. What ends there is in nothing's way.
+type Meeting [2]Side
 
-// Pass: two triangles that go on with one another, one on each side.
-type Pass [2]int
+// Side of a meeting: the triangles of one place.
+type Side struct {
+	On    []int // what goes on, each with the one that has the same index on the other side
+	Folds []Fold
+}
 
 // Fold of two triangles: the one that has to lie low, and the one that has to lie high, for the crease's kind to be so.
 type Fold struct{ Low, High int }
@@ -35,14 +35,12 @@ func (p Pile) Meetings() map[api.Edge]Meeting {
 // met: with one more that comes to this edge.
 func (p Pile) met(m Meeting, at api.Edge, i int, j paper.Joint) Meeting {
 	near, kind := p.side(at, i), p.Kind(j.E)
-	switch {
-	case kind != 0:
-		m.Folds[near] = append(m.Folds[near], p.folded(kind, i, j.To))
-	case near == 0:
-		m.Passes = append(m.Passes, Pass{i, j.To})
-	default:
-		m.Passes = append(m.Passes, Pass{j.To, i})
+	if kind != 0 {
+		m[near].Folds = append(m[near].Folds, p.folded(kind, i, j.To))
+		return m
 	}
+	m[near].On = append(m[near].On, i)
+	m[1-near].On = append(m[1-near].On, j.To)
 	return m
 }
 

@@ -1,6 +1,7 @@
 package pile
 
 import (
+	"maps"
 	"slices"
 
 	"pleat/api"
@@ -25,18 +26,24 @@ func (p Pile) heights(stacks []api.Stack) ([]int, bool) {
 	return heights, !slices.Contains(heights, -1)
 }
 
-// Stacks of triangles, rising by their places, in an order.
-func (p Pile) Stacks(above Order) []api.Stack {
+// Piled: the numbers of the triangles at each place, rising by places.
+func (p Pile) Piled() [][]int {
 	piled := map[api.Tri][]int{}
 	for i, at := range p.Places {
 		piled[at] = append(piled[at], i)
 	}
+	return slices.SortedFunc(maps.Values(piled), func(a, b []int) int {
+		return paper.CompareTris(p.Places[a[0]], p.Places[b[0]])
+	})
+}
+
+// Stacks of triangles, rising by their places, in an order.
+func (p Pile) Stacks(above Order) []api.Stack {
 	var stacks []api.Stack
-	for at, numbers := range piled {
+	for _, numbers := range p.Piled() {
 		slices.SortFunc(numbers, above.compare)
-		stacks = append(stacks, api.Stack{At: at, Tris: p.named(numbers)})
+		stacks = append(stacks, api.Stack{At: p.Places[numbers[0]], Tris: p.named(numbers)})
 	}
-	slices.SortFunc(stacks, func(a, b api.Stack) int { return paper.CompareTris(a.At, b.At) })
 	return stacks
 }
 
