@@ -29,13 +29,13 @@ func (p Paper) Beyond(e api.Edge, near api.Map) api.Map {
 	if p.Kind(e) == 0 {
 		return near
 	}
-	mirror, _ := grid.Mirror(lineOf(e)) // a sheet's lines are never too far to be
+	mirror, _ := grid.Mirror(LineOf(e)) // a sheet's lines are never too far to be
 	far, _ := grid.After(mirror, near)
 	return far
 }
 
-// lineOf an edge.
-func lineOf(e api.Edge) api.Line {
+// LineOf an edge.
+func LineOf(e api.Edge) api.Line {
 	switch {
 	case e.P.X == e.Q.X:
 		return api.Line{Way: api.Upright, C: e.P.X}

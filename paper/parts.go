@@ -1,13 +1,12 @@
 package paper
 
-import (
-	"slices"
+import "slices"
 
-	"pleat/api"
-)
+// Crossed: may one come from a triangle to the one beyond a joint?
+type Crossed func(near int, j Joint) bool
 
-// Parts: of each triangle the number of its part, from 0 on in the order of their first triangles: a part's come to one another across edges that may be crossed.
-func (p Paper) Parts(crossed func(e api.Edge) bool) []int {
+// Parts: of each triangle the number of its part, from 0 on in the order of their first triangles: a part's come to one another across edges that may be crossed, from both sides or from none.
+func (p Paper) Parts(crossed Crossed) []int {
 	part := slices.Repeat([]int{-1}, len(p.Tris))
 	count := 0
 	for i := range p.Tris {
@@ -20,12 +19,12 @@ func (p Paper) Parts(crossed func(e api.Edge) bool) []int {
 }
 
 // spread the number of a part from one triangle on to all that belong to it.
-func (p Paper) spread(part []int, first, number int, crossed func(e api.Edge) bool) {
+func (p Paper) spread(part []int, first, number int, crossed Crossed) {
 	part[first] = number
 	reached := []int{first}
 	for n := 0; n < len(reached); n++ {
 		for _, j := range p.Joints(reached[n]) {
-			if part[j.To] < 0 && crossed(j.E) {
+			if part[j.To] < 0 && crossed(reached[n], j) {
 				part[j.To] = number
 				reached = append(reached, j.To)
 			}
@@ -35,11 +34,11 @@ func (p Paper) spread(part []int, first, number int, crossed func(e api.Edge) bo
 
 // Faces: of each triangle the number of its face, what creases part.
 func (p Paper) Faces() []int {
-	return p.Parts(func(e api.Edge) bool { return p.Kind(e) == 0 })
+	return p.Parts(func(_ int, j Joint) bool { return p.Kind(j.E) == 0 })
 }
 
 // Joined: is some triangle there, and does one come from it to all others across edges?
 func (p Paper) Joined() bool {
-	parts := p.Parts(func(api.Edge) bool { return true })
+	parts := p.Parts(func(int, Joint) bool { return true })
 	return len(parts) > 0 && slices.Max(parts) == 0
 }

@@ -65,6 +65,9 @@ func (p Pile) side(e api.Edge, i int) int {
 	return 0
 }
 
+// Line of the plane to which an edge of a triangle comes.
+func (p Pile) Line(i int, e api.Edge) api.Line { return paper.LineOf(brought(e, p.Maps[i])) }
+
 // brought: where a map brings an edge.
 func brought(e api.Edge, m api.Map) api.Edge {
 	p, q := moved(e.P, m), moved(e.Q, m)

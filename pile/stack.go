@@ -41,14 +41,14 @@ func (p Pile) Piled() [][]int {
 func (p Pile) Stacks(above Order) []api.Stack {
 	var stacks []api.Stack
 	for _, numbers := range p.Piled() {
-		slices.SortFunc(numbers, above.compare)
+		slices.SortFunc(numbers, above.Compare)
 		stacks = append(stacks, api.Stack{At: p.Places[numbers[0]], Tris: p.named(numbers)})
 	}
 	return stacks
 }
 
-// compare: what lies lower comes first.
-func (above Order) compare(a, b int) int {
+// Compare: what lies lower comes first.
+func (above Order) Compare(a, b int) int {
 	switch {
 	case above(b, a):
 		return -1
