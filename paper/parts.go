@@ -1,6 +1,10 @@
 package paper
 
-import "slices"
+import (
+	"slices"
+
+	"pleat/api"
+)
 
 // Crossed: may one come from a triangle to the one beyond a joint?
 type Crossed func(near int, j Joint) bool
@@ -30,6 +34,18 @@ func (p Paper) spread(part []int, first, number int, crossed Crossed) {
 			}
 		}
 	}
+}
+
+// Gathered: the triangles of each part, told by the number of each triangle's part as Parts has it.
+func (p Paper) Gathered(part []int) [][]api.Tri {
+	var parts [][]api.Tri
+	for i, n := range part {
+		if n == len(parts) { // they are numbered as their first triangles come
+			parts = append(parts, nil)
+		}
+		parts[n] = append(parts[n], p.Tris[i])
+	}
+	return parts
 }
 
 // Faces: of each triangle the number of its face, what creases part.
