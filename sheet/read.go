@@ -6,6 +6,7 @@ import (
 	"strings"
 
 	"pleat/api"
+	"pleat/lines"
 	"pleat/paper"
 )
 
@@ -22,11 +23,11 @@ type reader struct {
 
 // linesOf a text: behind the last line feed there is one only if something stands there.
 func linesOf(text string) []string {
-	lines := strings.Split(text, "\n")
-	if last := len(lines) - 1; lines[last] == "" {
-		return lines[:last]
+	all := strings.Split(text, "\n")
+	if last := len(all) - 1; all[last] == "" {
+		return all[:last]
 	}
-	return lines
+	return all
 }
 
 // refuse gives up, if the line that is read is wrong; Read recovers what was told.
@@ -40,15 +41,12 @@ func (r *reader) refuse(wrong bool, code api.Errno) {
 func (r *reader) words() []string {
 	for r.at++; r.at <= len(r.lines); r.at++ {
 		counts, _, _ := strings.Cut(r.lines[r.at-1], "#")
-		if words := strings.FieldsFunc(counts, parts); len(words) > 0 {
+		if words := lines.Words(counts); len(words) > 0 {
 			return words
 		}
 	}
 	return nil
 }
-
-// parts: does it part words?
-func parts(c rune) bool { return c == 9 || c == 13 || c == 32 }
 
 func (r *reader) readSize() {
 	words := r.words()
@@ -58,12 +56,8 @@ func (r *reader) readSize() {
 }
 
 func (r *reader) number(word string) int {
-	r.refuse(len(word) > 3, api.ErrForm)
-	n := 0
-	for _, c := range word {
-		r.refuse(c < '0' || c > '9', api.ErrForm)
-		n = 10*n + int(c-'0')
-	}
+	n, ok := lines.Number(word)
+	r.refuse(!ok, api.ErrForm)
 	return n
 }
 

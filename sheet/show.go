@@ -1,10 +1,10 @@
 package sheet
 
 import (
-	"strconv"
 	"strings"
 
 	"pleat/api"
+	"pleat/lines"
 )
 
 // letters of cells: which one stands for a number.
@@ -12,7 +12,7 @@ const letters = "0123456789abcdef"
 
 func show(s api.Sheet) string {
 	var b strings.Builder
-	b.WriteString("sheet" + numbers(s.W, s.H) + "\n")
+	b.WriteString("sheet " + lines.Of(s.W, s.H))
 	for y := s.H - 1; y >= 0; y-- {
 		for _, n := range s.Mask[y*s.W : (y+1)*s.W] {
 			b.WriteByte(letters[n])
@@ -20,18 +20,9 @@ func show(s api.Sheet) string {
 		b.WriteString("\n")
 	}
 	for _, c := range s.Creases {
-		b.WriteString(letter(c.Kind) + numbers(c.E.P.X, c.E.P.Y, c.E.Q.X, c.E.Q.Y) + "\n")
+		b.WriteString(letter(c.Kind) + " " + lines.Of(c.E.P.X, c.E.P.Y, c.E.Q.X, c.E.Q.Y))
 	}
 	return b.String()
-}
-
-// numbers, each behind a blank.
-func numbers(all ...int) string {
-	text := ""
-	for _, n := range all {
-		text += " " + strconv.Itoa(n)
-	}
-	return text
 }
 
 // letter of a crease's kind.
